@@ -1,0 +1,1 @@
+"""Portolan: maps from the globe with certified bounds."""
