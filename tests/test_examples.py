@@ -1,0 +1,61 @@
+"""The examples of the interface, as they stand in the document."""
+
+import doctest
+import unittest
+
+EXAMPLES = """
+>>> from portolan.enclosures import of_fraction
+>>> of_fraction(8, 1, 3)
+(85, 86)
+
+>>> from portolan.enclosures import rooted
+>>> rooted((512, 512), 8)
+(362, 363)
+
+>>> from portolan.enclosures import decimal_text
+>>> decimal_text((-3, 5), 2, 1)
+'-0.8..1.3'
+
+>>> from portolan.enclosures import contains
+>>> from portolan.functions import pi_enclosed
+>>> contains(pi_enclosed(8), 8, 355, 113)
+True
+
+>>> from portolan.formulas import number
+>>> from portolan.formulas import plus
+>>> plus(number(1, 2), number(1, 3))
+(('number', 1, 2), ('number', 1, 3), ('add', 0, 1))
+
+>>> from portolan.formulas import applied
+>>> from portolan.formulas import number
+>>> from portolan.formulas import tidied
+>>> from portolan.formulas import times
+>>> tidied(times(number(2, 1), number(2, 1)))
+(('number', 2, 1), ('times', 0, 0))
+
+>>> from portolan.formulas import number
+>>> from portolan.values import floor_of
+>>> floor_of(number(-7, 2))
+-4
+
+>>> from portolan.papers import paper_holds
+>>> paper_holds((("number", 1, 3),), (8, ((85, 86),)))
+True
+
+>>> from portolan.papers import paper_holds
+>>> paper_holds((("number", 1, 3), ("times", 0, 0)), (8, ((85, 86), (29, 30))))
+False
+
+>>> from portolan.papertexts import write_paper
+>>> write_paper((("number", 1, 3),), (8, ((85, 86),)))
+'paper 8\\nnumber 1 3 : 85 86\\n'
+"""
+
+
+class Examples(unittest.TestCase):
+    def test_examples(self):
+        found = doctest.DocTestParser().get_doctest(EXAMPLES, {}, "examples", None, 0)
+        report = []
+        result = doctest.DocTestRunner(verbose=False).run(found, out=report.append)
+        self.assertEqual(result.failed, 0, "".join(report))
+        self.assertEqual(result.attempted, EXAMPLES.count(">>> "))

@@ -1,0 +1,38 @@
+"""The functions of the interface stand in the files under which it lists them, with its arguments."""
+
+import importlib
+import inspect
+import unittest
+
+INTERFACE = """
+enclosures: of_fraction(bits, p, q) hull(a, b) common(a, b) is_within(a, b) rescaled(a, bits, other)
+enclosures: contains(a, bits, p, q) added(a, b) subtracted(a, b) negated(a) multiplied(a, b, bits)
+enclosures: squared(a, bits) divided(a, b, bits) rooted(a, bits) decimal_text(a, bits, places)
+functions: pi_enclosed(bits) sine(a, bits) cosine(a, bits) exponential(a, bits) logarithm(a, bits)
+functions: arctangent(a, bits) arcsine(a, bits) arccosine(a, bits)
+formulas: is_formula(value) number(p, q) pi_formula() plus(f, g) minus(f, g) times(f, g) over(f, g)
+formulas: applied(word, f) tidied(formula) steps_of(formula, word)
+values: enclose(formula, bits) sign_of(formula) floor_of(formula)
+papers: paper_holds(formula, paper) paper_for(formula, bits) told_by(formula, paper, bits)
+papertexts: write_paper(formula, paper) read_paper(text)
+"""
+
+
+def listed():
+    """Pairs of a file and a function with its arguments, as the interface writes it."""
+    for row in INTERFACE.strip().split("\n"):
+        file, _, functions = row.partition(": ")
+        for function in functions.replace(") ", ")\n").split("\n"):
+            yield file, function
+
+
+class Interface(unittest.TestCase):
+    def test_functions(self):
+        for file, wanted in listed():
+            with self.subTest(file=file, wanted=wanted):
+                module = importlib.import_module(f"portolan.{file}")
+                name = wanted.partition("(")[0]
+                function = getattr(module, name)
+                self.assertTrue(inspect.isfunction(function))
+                self.assertEqual(function.__module__, f"portolan.{file}")
+                self.assertEqual(name + str(inspect.signature(function)), wanted)
