@@ -49,6 +49,27 @@ False
 >>> from portolan.papertexts import write_paper
 >>> write_paper((("number", 1, 3),), (8, ((85, 86),)))
 'paper 8\\nnumber 1 3 : 85 86\\n'
+
+>>> from portolan.angletexts import angle_text
+>>> angle_text(-15000000)
+'-1.5'
+
+>>> from portolan.points import made_point
+>>> made_point(0, 1800000000)
+(0, -1800000000)
+
+>>> from portolan.angletexts import arc_text
+>>> arc_text(15123457)
+'1d30m44.44452s'
+
+>>> from portolan.projections import forward
+>>> from portolan.values import sign_of
+>>> sign_of(forward(("mercator", 0, 0, 0, 0), (450000000, -100000000))[1])
+1
+
+>>> from portolan.projections import is_projection
+>>> is_projection(("albers", 0, 0, 200000000, 500000000))
+True
 """
 
 

@@ -15,6 +15,9 @@ formulas: applied(word, f) tidied(formula) steps_of(formula, word)
 values: enclose(formula, bits) sign_of(formula) floor_of(formula)
 papers: paper_holds(formula, paper) paper_for(formula, bits) told_by(formula, paper, bits)
 papertexts: write_paper(formula, paper) read_paper(text)
+points: is_point(value) wrapped(angle) made_point(lat, lon) antipode(point) radians(angle) degrees(formula)
+angletexts: angle_text(angle) point_text(point) arc_text(angle) read_angle(text) read_point(text)
+projections: is_projection(value) forward(projection, point) kind_of(projection)
 """
 
 

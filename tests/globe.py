@@ -1,0 +1,103 @@
+"""Places on the globe and on maps in decimal form, for tests: reckoned as the document writes them."""
+
+import functools
+from decimal import Decimal
+
+from tests import decimals
+from tests.decimals import arctan
+from tests.decimals import exactly
+from tests.decimals import pi
+
+DEGREE = 10 ** 7
+TURN = 360 * DEGREE
+
+
+def rad(angle):
+    """An angle in units, in radians."""
+    return exactly(angle, 180 * DEGREE) * pi()
+
+
+@functools.lru_cache(None)
+def sin(angle):
+    """The sine of an angle in units; what is 0 is exactly 0."""
+    if angle % (TURN // 2) == 0:
+        return Decimal(0)
+    return decimals.sine(rad(turned(angle)))
+
+
+@functools.lru_cache(None)
+def cos(angle):
+    if angle % (TURN // 2) == TURN // 4:
+        return Decimal(0)
+    return decimals.cosine(rad(turned(angle)))
+
+
+def turned(angle):
+    """The angle from -180 to less than 180 degrees, counted in whole turns."""
+    while angle >= TURN // 2:
+        angle -= TURN
+    while angle < -(TURN // 2):
+        angle += TURN
+    return angle
+
+
+def atan2(y, x):
+    """The angle from -pi to pi whose sine and cosine are in proportion to y and x."""
+    if y == 0:
+        return Decimal(0) if x > 0 else pi()
+    if abs(x) <= abs(y):
+        return (pi() / 2 if y > 0 else -pi() / 2) - arctan(x / y)
+    if x > 0:
+        return arctan(y / x)
+    return arctan(y / x) + (pi() if y > 0 else -pi())
+
+
+def artanh(x):
+    return ((1 + x) / (1 - x)).ln() / 2
+
+
+def cosine_between(p, q):
+    """The cosine of the distance of two points."""
+    return sin(p[0]) * sin(q[0]) + cos(p[0]) * cos(q[0]) * cos(p[1] - q[1])
+
+
+def coordinates(projection, point):
+    """The place (x, y) of a point on the map (point 8.1)."""
+    name, lat0, lon0, lat1, lat2 = projection
+    lat = point[0]
+    d = turned(point[1] - lon0)
+    if name == "plate":
+        return rad(d) * cos(lat1), rad(lat)
+    if name == "mercator":
+        return rad(d), artanh(sin(lat))
+    if name == "lambert":
+        return rad(d) * cos(lat1), sin(lat) / cos(lat1)
+    if name == "sinus":
+        return rad(d) * cos(lat), rad(lat)
+    if name in ("albers", "cone"):
+        n = cone_number(projection)
+        angle = n * rad(d)
+        radius = cone_radius(projection, lat)
+        return radius * decimals.sine(angle), cone_radius(projection, lat0) - radius * decimals.cosine(angle)
+    u = cosine_between((lat0, lon0), point)
+    x = cos(lat) * sin(d)
+    y = cos(lat0) * sin(lat) - sin(lat0) * cos(lat) * cos(d)
+    factor = {"gnomonic": lambda: 1 / u, "stereo": lambda: 2 / (1 + u), "ortho": lambda: Decimal(1),
+              "disk": lambda: (2 / (1 + u)).sqrt()}[name]()
+    return x * factor, y * factor
+
+
+def cone_number(projection):
+    name, _, _, lat1, lat2 = projection
+    if name == "albers":
+        return (sin(lat1) + sin(lat2)) / 2
+    return (cos(lat1) / cos(lat2)).ln() / (artanh(sin(lat2)) - artanh(sin(lat1)))
+
+
+def cone_radius(projection, lat):
+    name, _, _, lat1, _ = projection
+    n = cone_number(projection)
+    if name == "albers":
+        constant = cos(lat1) * cos(lat1) + 2 * n * sin(lat1)
+        return (constant - 2 * n * sin(lat)).sqrt() / n
+    return cos(lat1) * (n * (artanh(sin(lat1)) - artanh(sin(lat)))).exp() / n
