@@ -25,6 +25,12 @@ def cone_number(projection):
     return quotient(logarithm_term(ratio), difference(stretched(c), stretched(b)))
 
 
+def is_northern(projection):
+    """Return True if n is positive."""
+    # Both kinds of n have the sign of the sum of the two parallels.
+    return projection[3] + projection[4] > 0
+
+
 def cone_radius(projection, lat):
     """Return a formula for R(t)."""
     n = cone_number(projection)

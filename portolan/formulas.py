@@ -101,10 +101,11 @@ def indexes_of(step):
 
 def moved(step, places):
     """Return a step whose indexes are replaced by what stands at them in a list."""
-    if step[0] == "number":
+    if step[0] == "number" or len(step) == 1:
         return step
-    fitted = [places[index] for index in step[1:]]
-    return (step[0], *fitted)
+    if len(step) == 2:
+        return (step[0], places[step[1]])
+    return (step[0], places[step[1]], places[step[2]])
 
 
 def combined(word, f, g):
@@ -117,15 +118,23 @@ def combined(word, f, g):
 def merged(formula):
     """Return a list of the steps without repetitions, and a list of the places of all steps in it."""
     kept = []
+    places = merged_into(kept, {}, formula)
+    return kept, places
+
+
+def merged_into(kept, place_of, formula):
+    """Add the steps of a formula to a list, without repetitions, and return the list of their places in it.
+
+    The dict tells the places of the steps of the list; it is added to, too.
+    """
     places = []
-    place_of = {}
     for step in formula:
         fitted = moved(step, places)
         if fitted not in place_of:
             place_of[fitted] = len(kept)
             kept.append(fitted)
         places.append(place_of[fitted])
-    return kept, places
+    return places
 
 
 def used_steps(steps, last):

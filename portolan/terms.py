@@ -1,18 +1,30 @@
 """Formulas made from formulas, kept short: each step stands once, and needless operations are left out.
 
 What is a fraction stays a fraction, so that 0 and 1 are seen, and signs of
-numbers that are exactly 0 can be told. All formulas here are sound.
+numbers that are exactly 0 can be told. All formulas that are passed are sound
+and tidied (a formula from elsewhere is made so by `short`).
 """
 
+from math import isqrt
+
+from portolan.exact import exact_values
 from portolan.exact import lowest_terms
 from portolan.exact import operation
 from portolan.formulas import applied
-from portolan.formulas import combined
+from portolan.formulas import merged_into
 from portolan.formulas import number
 from portolan.formulas import tidied
 
 ZERO = (("number", 0, 1),)
 ONE = (("number", 1, 1),)
+
+
+def short(formula):
+    """Return a formula with the same value: one number if it is known exactly, or else a tidied one."""
+    exact = exact_values(formula)[-1]
+    if exact is None:
+        return tidied(formula)
+    return fraction(exact[0], exact[1])
 
 
 def fraction(p, q):
@@ -64,6 +76,11 @@ def opposite(f):
     return difference(ZERO, f)
 
 
+def square(f):
+    """Return a formula for the product of a number with itself."""
+    return product(f, f)
+
+
 def double(f):
     """Return a formula for twice a number."""
     return product(number(2, 1), f)
@@ -74,9 +91,22 @@ def half(f):
     return product(number(1, 2), f)
 
 
+def total_of(formulas):
+    """Return a formula for the sum of a list of formulas."""
+    found = ZERO
+    for formula in formulas:
+        found = total(found, formula)
+    return found
+
+
 def root(f):
-    """Return a formula for the square root."""
-    return unless_at("root", f, 0, ZERO)
+    """Return a formula for the square root, which is a number if the one of a fraction is a fraction."""
+    if is_fraction(f):
+        p = isqrt(f[0][1])
+        q = isqrt(f[0][2])
+        if p * p == f[0][1] and q * q == f[0][2]:
+            return number(p, q)
+    return applied("root", f)
 
 
 def sine_term(f):
@@ -99,6 +129,21 @@ def logarithm_term(f):
     return unless_at("log", f, 1, ZERO)
 
 
+def arctangent_term(f):
+    """Return a formula for the arctangent."""
+    return unless_at("arctan", f, 0, ZERO)
+
+
+def arcsine_term(f):
+    """Return a formula for the arcsine."""
+    return unless_at("arcsine", f, 0, ZERO)
+
+
+def arccosine_term(f):
+    """Return a formula for the arccosine."""
+    return unless_at("arccosine", f, 1, ZERO)
+
+
 def artanh(f):
     """Return a formula for artanh(f) = log((1 + f) / (1 - f)) / 2."""
     return half(logarithm_term(quotient(total(ONE, f), difference(ONE, f))))
@@ -108,7 +153,7 @@ def unless_at(word, f, n, value):
     """Return the function of a formula, or its known value if the formula is the number n."""
     if is_number(f, n):
         return value
-    return tidied(applied(word, f))
+    return applied(word, f)
 
 
 def joined(word, f, g):
@@ -116,7 +161,11 @@ def joined(word, f, g):
     if is_fraction(f) and is_fraction(g):
         p, q = operation(word, f[0][1:], g[0][1:])
         return fraction(p, q)
-    return tidied(combined(word, f, g))
+    # Both are tidied, so all their steps are used, and only those of the second one can be repetitions.
+    steps = list(f)
+    place_of = {step: place for place, step in enumerate(f)}
+    places = merged_into(steps, place_of, g)
+    return (*steps, (word, len(f) - 1, places[-1]))
 
 
 def is_fraction(f):

@@ -101,3 +101,37 @@ def cone_radius(projection, lat):
         constant = cos(lat1) * cos(lat1) + 2 * n * sin(lat1)
         return (constant - 2 * n * sin(lat)).sqrt() / n
     return cos(lat1) * (n * (artanh(sin(lat1)) - artanh(sin(lat)))).exp() / n
+
+
+def vector(p):
+    """The direction of a point in space."""
+    lat, lon = p
+    return cos(lat) * cos(lon), cos(lat) * sin(lon), sin(lat)
+
+
+def dot(v, w):
+    return sum((a * b for a, b in zip(v, w)), Decimal(0))
+
+
+def cross(v, w):
+    return v[1] * w[2] - v[2] * w[1], v[2] * w[0] - v[0] * w[2], v[0] * w[1] - v[1] * w[0]
+
+
+def length(v):
+    return dot(v, v).sqrt()
+
+
+def angle_between(v, w):
+    """The angle between two vectors, by its tangent."""
+    return atan2(length(cross(v, w)), dot(v, w))
+
+
+def solid_angle(p, q, r):
+    """The signed area of a triangle from its three angles, positive counter-clockwise."""
+    places = [vector(p), vector(q), vector(r)]
+    turn = dot(places[0], cross(places[1], places[2]))
+    total = -pi()
+    for k in range(3):
+        here, left, right = places[k], places[k - 1], places[(k + 1) % 3]
+        total += angle_between(cross(here, left), cross(here, right))
+    return total if turn > 0 else -total

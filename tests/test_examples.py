@@ -67,9 +67,30 @@ False
 >>> sign_of(forward(("mercator", 0, 0, 0, 0), (450000000, -100000000))[1])
 1
 
+>>> from portolan.sphere import box_area
+>>> from portolan.values import floor_of
+>>> floor_of(box_area(-900000000, 900000000, 0, 3600000000))
+12
+
+>>> from portolan.ellipsoids import eccentricity2
+>>> eccentricity2((2, 1, 10))
+(19, 100)
+
+>>> from portolan.ellipsoids import WGS84
+>>> from portolan.ellipsoids import half_axis
+>>> from portolan.values import floor_of
+>>> floor_of(half_axis(WGS84))
+6356752
+
 >>> from portolan.projections import is_projection
 >>> is_projection(("albers", 0, 0, 200000000, 500000000))
 True
+
+>>> from portolan.inverses import nearest
+>>> from portolan.projections import forward
+>>> x, y = forward(("stereo", 100000000, 0, 0, 0), (480000000, 110000000))
+>>> nearest(("stereo", 100000000, 0, 0, 0), x, y)
+(480000000, 110000000)
 """
 
 

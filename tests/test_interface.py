@@ -18,6 +18,15 @@ papertexts: write_paper(formula, paper) read_paper(text)
 points: is_point(value) wrapped(angle) made_point(lat, lon) antipode(point) radians(angle) degrees(formula)
 angletexts: angle_text(angle) point_text(point) arc_text(angle) read_angle(text) read_point(text)
 projections: is_projection(value) forward(projection, point) kind_of(projection)
+inverses: inverse(projection, x, y) angle_of(y, x) nearest(projection, x, y)
+sphere: direction(p) midpoint(p, q) distance(p, q) chord(p, q) bearing(p, q) cross_track(p, q, r)
+sphere: triangle_area(p, q, r) box_area(south, north, west, east) reached(p, azimuth, length)
+ellipsoids: is_ellipsoid(value) eccentricity2(ellipsoid) half_axis(ellipsoid) normal_radius(ellipsoid, lat)
+ellipsoids: meridian_radius(ellipsoid, lat) position(ellipsoid, point, height)
+latitudes: parametric_latitude(ellipsoid, lat) geocentric_latitude(ellipsoid, lat)
+latitudes: isometric_latitude(ellipsoid, lat) conformal_latitude(ellipsoid, lat)
+latitudes: authalic_latitude(ellipsoid, lat) zone_area(ellipsoid, south, north)
+latitudes: latitude_of(ellipsoid, x, z, bits)
 """
 
 
