@@ -6,10 +6,8 @@ from portolan.errors import InvalidPoint
 from portolan.errors import NoBearing
 from portolan.errors import NoMidpoint
 from portolan.errors import Undecided
-from portolan.formulas import number
 from portolan.inverses import angle_of
 from portolan.points import FULL_TURN
-from portolan.points import HALF_TURN
 from portolan.points import RIGHT_ANGLE
 from portolan.points import are_opposite
 from portolan.points import is_latitude
@@ -25,7 +23,6 @@ from portolan.terms import arctangent_term
 from portolan.terms import cosine_term
 from portolan.terms import difference
 from portolan.terms import double
-from portolan.terms import half
 from portolan.terms import opposite
 from portolan.terms import product
 from portolan.terms import quotient
@@ -54,19 +51,11 @@ def direction(p):
 
 def distance(p, q):
     """Return a formula for the length of the shortest way."""
-    arc = plain_arc(p, q)
-    if arc is not None:
-        return radians(arc)
     return arccosine_term(cosine_between(p, q))
 
 
 def chord(p, q):
     """Return a formula for the length of the straight line."""
-    arc = plain_arc(p, q)
-    if arc == HALF_TURN:
-        return number(2, 1)
-    if arc is not None:
-        return double(sine_term(half(radians(arc))))
     return root(double(difference(ONE, cosine_between(p, q))))
 
 
@@ -87,16 +76,11 @@ def reached(p, azimuth, length):
     if is_pole(p):
         raise NoBearing("a way from a pole has no angle to the north")
     way = short(length)
-    z = wrapped(azimuth)
-    if z == 0:
-        return on_meridian(p, total(radians(p[0]), way))
-    if z == -HALF_TURN:
-        return on_meridian(p, difference(radians(p[0]), way))
     sine = sine_of(p[0])
     cosine = cosine_of(p[0])
-    ahead = product(sine_term(way), cosine_of(z))
+    ahead = product(sine_term(way), cosine_of(azimuth))
     lat = arcsine_term(total(product(sine, cosine_term(way)), product(cosine, ahead)))
-    east = product(sine_term(way), sine_of(z))
+    east = product(sine_term(way), sine_of(azimuth))
     turn = angle_of(east, difference(product(cosine, cosine_term(way)), product(sine, ahead)))
     return lat, total(radians(p[1]), turn)
 
@@ -105,8 +89,6 @@ def midpoint(p, q):
     """Return formulas for the coordinates in space of the place in the middle."""
     if are_opposite(p, q):
         raise NoMidpoint("the places are opposite to each other")
-    if same_place(p, q):
-        return direction(p)
     length = root(double(total(ONE, cosine_between(p, q))))
     x, y, z = [quotient(total(f, g), length) for f, g in zip(direction(p), direction(q))]
     return x, y, z
@@ -115,7 +97,7 @@ def midpoint(p, q):
 def cross_track(p, q, r):
     """Return a formula for the distance of r from the great circle, positive on the left."""
     demand_circle(p, q)
-    length = sine_between(p, q)
+    length = root(difference(ONE, square(cosine_between(p, q))))
     height = quotient(triple_product(p, q, r), length)
     low, high = enclose(height, FEW_BITS)
     if -FAR_FROM_ONE < low and high < FAR_FROM_ONE:
@@ -156,33 +138,9 @@ def demand_circle(p, q):
         raise NoBearing("the places are the same, or opposite to each other")
 
 
-def plain_arc(p, q):
-    """Return the distance as an angle in units, if it is known to be a whole one, or None."""
-    d = wrapped(p[1] - q[1])
-    if d == 0 or is_pole(p) or is_pole(q):
-        return abs(p[0] - q[0])
-    if d == -HALF_TURN:
-        return HALF_TURN - abs(p[0] + q[0])
-    if p[0] == 0 and q[0] == 0:
-        return abs(d)
-    return None
-
-
 def cosine_between(p, q):
-    """Return a formula for the product of two directions."""
-    arc = plain_arc(p, q)
-    if arc is not None:
-        return cosine_of(arc)
-    # The lesser point stands first, so that both orders give the same formula.
-    return seen_from(min(p, q), max(p, q))[2]
-
-
-def sine_between(p, q):
-    """Return a formula for the length of the cross product of two directions."""
-    arc = plain_arc(p, q)
-    if arc is not None:
-        return sine_of(arc)
-    return root(difference(ONE, square(cosine_between(p, q))))
+    """Return a formula for the product of two directions, which is a number for the same place and opposite ones."""
+    return seen_from(p, q)[2]
 
 
 def triple_product(p, q, r):
@@ -190,12 +148,6 @@ def triple_product(p, q, r):
     first = seen_from(p, q)
     second = seen_from(p, r)
     return difference(product(first[0], second[1]), product(first[1], second[0]))
-
-
-def on_meridian(p, angle):
-    """Return formulas for the place on the great circle over p and the poles at an angle from the equator."""
-    turn = angle_of(ZERO, cosine_term(angle))
-    return arcsine_term(sine_term(angle)), total(radians(p[1]), turn)
 
 
 def near_right_angle(height, along, ahead):

@@ -328,6 +328,23 @@ class Inverse(unittest.TestCase):
                 self.nowhere(projection, n(1000), n(0))
                 self.nowhere(projection, n(0), n(1000))
 
+    def test_on_the_curves(self):
+        """On a curve that is a pole the arcsine is one of 1 or -1, which is not known exactly."""
+        for projection in maps.CONIC:
+            if projection[0] == "albers":
+                for lat in (LAT, -LAT):
+                    point = (lat, globe.turned(projection[2] + D))
+                    with self.assertRaises(Undecided):
+                        inverse(projection, *forward(projection, point))
+                    # Further than half a turn there is certainly no place.
+                    angle = n(99, 100)
+                    radius = cone_radius(projection, lat)
+                    x = f.times(radius, f.applied("sine", f.times(angle, PI)))
+                    y = f.minus(cone_radius(projection, projection[1]),
+                                f.times(radius, f.applied("cosine", f.times(angle, PI))))
+                    if abs(globe.cone_number(projection)) < Decimal("0.98"):
+                        self.nowhere(projection, x, y)
+
     def test_beyond_half_a_turn(self):
         """Half of a unit of angle further than half a turn, on both sides."""
         small = globe.rad(1) / 2

@@ -228,7 +228,7 @@ class Places(unittest.TestCase):
         height = globe.dot(globe.vector(r), axis) / globe.length(axis)
         value = decimals.pi() / 2 - globe.angle_between(axis, globe.vector(r))
         self.assertLess(abs(decimals.sine(value) - height), decimals.Decimal(10) ** -250)
-        check_value(self, cross_track(p, q, r), value, bits)
+        check_value(self, cross_track(p, q, r), value, bits, len(bits) == 3)
         return value
 
     def test_cross_track(self):
