@@ -33,13 +33,16 @@ def is_northern(projection):
 
 def cone_radius(projection, lat):
     """Return a formula for R(t)."""
+    return quotient(cone_width(projection, lat), cone_number(projection))
+
+
+def cone_width(projection, lat):
+    """Return a formula for n R(t), the length of a parallel on the map for each unit of its angle."""
     n = cone_number(projection)
     if projection[0] == "albers":
-        inside = difference(albers_constant(projection), product(double(n), sine_of(lat)))
-        return quotient(root(inside), n)
+        return root(difference(albers_constant(projection), product(double(n), sine_of(lat))))
     b = projection[3]
-    power = exponential_term(product(n, difference(stretched(b), stretched(lat))))
-    return quotient(product(cosine_of(b), power), n)
+    return product(cosine_of(b), exponential_term(product(n, difference(stretched(b), stretched(lat)))))
 
 
 def albers_constant(projection):

@@ -25,7 +25,6 @@ from portolan.terms import arctangent_term
 from portolan.terms import cosine_term
 from portolan.terms import difference
 from portolan.terms import double
-from portolan.terms import exponential_term
 from portolan.terms import half
 from portolan.terms import logarithm_term
 from portolan.terms import opposite
@@ -36,6 +35,7 @@ from portolan.terms import short
 from portolan.terms import square
 from portolan.terms import total
 from portolan.trigonometry import cosine_of
+from portolan.trigonometry import latitude_at_height
 from portolan.trigonometry import sine_of
 from portolan.trigonometry import steep_angle
 from portolan.trigonometry import stretched
@@ -104,7 +104,7 @@ def from_cylinder(projection, x, y):
     if name == "mercator":
         highest = number(GREATEST_HEIGHT, 1)
         demand(within_turn(x) + between(opposite(highest), y, highest), 0)
-        return arctangent_term(half(difference(exponential_term(y), exponential_term(opposite(y))))), x
+        return latitude_at_height(y), x
     width = cosine_of(projection[3])
     d = quotient(x, width)
     if name == "plate":

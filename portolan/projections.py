@@ -105,22 +105,36 @@ def straight_place(projection, lat, d):
 def azimuthal_place(projection, point):
     """Return the place of a point on an azimuthal map."""
     name = projection[0]
-    center = center_of(projection)
-    if same_place(center, point):
+    if same_place(center_of(projection), point):
         return ZERO, ZERO
+    x, y, u = seen_on_map(projection, point)
+    if name == "gnomonic":
+        return quotient(x, u), quotient(y, u)
+    if name == "ortho":
+        return x, y
+    factor = stereo_factor(u)
+    if name == "disk":
+        factor = root(factor)
+    return product(x, factor), product(y, factor)
+
+
+def seen_on_map(projection, point):
+    """Return X, Y, u for a point that has a place on an azimuthal map."""
+    name = projection[0]
+    center = center_of(projection)
     if name in ("stereo", "disk") and are_opposite(center, point):
         raise NoPlace("the antipode of the center is not on the map")
     x, y, u = seen_from(center, point)
     if name == "gnomonic":
         demand_seen(u, 1)
-        return quotient(x, u), quotient(y, u)
     if name == "ortho":
         demand_seen(u, 0)
-        return x, y
-    factor = quotient(number(2, 1), total(ONE, u))
-    if name == "disk":
-        factor = root(factor)
-    return product(x, factor), product(y, factor)
+    return x, y, u
+
+
+def stereo_factor(u):
+    """Return a formula for 2 / (1 + u)."""
+    return quotient(number(2, 1), total(ONE, u))
 
 
 def demand_seen(u, least):

@@ -93,10 +93,13 @@ def half(f):
 
 def total_of(formulas):
     """Return a formula for the sum of a list of formulas."""
-    found = ZERO
-    for formula in formulas:
-        found = total(found, formula)
-    return found
+    if len(formulas) == 0:
+        return ZERO
+    if len(formulas) == 1:
+        return formulas[0]
+    # Each joining goes through all steps of both sides, so that halves are joined faster than one after the other.
+    middle = len(formulas) // 2
+    return total(total_of(formulas[:middle]), total_of(formulas[middle:]))
 
 
 def root(f):

@@ -42,6 +42,11 @@ def stretched(lat):
     return artanh(sine_of(lat))
 
 
+def latitude_at_height(y):
+    """Return a formula for the latitude in radians at a height y, from -64 to 64, on the map of Mercator."""
+    return arctangent_term(half(difference(exponential_term(y), exponential_term(opposite(y)))))
+
+
 def unstretched(w):
     """Return a formula for the latitude t in radians with artanh(sin(t)) = w."""
     if is_number(w, 0):

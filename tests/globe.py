@@ -87,6 +87,22 @@ def coordinates(projection, point):
     return x * factor, y * factor
 
 
+def has_place(projection, point):
+    """Whether a point is on the map, reckoned in decimal form."""
+    name, lat0, lon0, _, _ = projection
+    if name in ("mercator", "cone"):
+        return abs(point[0]) != TURN // 4
+    u = cosine_between((lat0, lon0), point)
+    tiny = Decimal(10) ** -200
+    if name == "gnomonic":
+        return u > tiny
+    if name == "ortho":
+        return u > -tiny
+    if name in ("stereo", "disk"):
+        return u > tiny - 1
+    return True
+
+
 def cone_number(projection):
     name, _, _, lat1, lat2 = projection
     if name == "albers":

@@ -91,6 +91,44 @@ True
 >>> x, y = forward(("stereo", 100000000, 0, 0, 0), (480000000, 110000000))
 >>> nearest(("stereo", 100000000, 0, 0, 0), x, y)
 (480000000, 110000000)
+
+>>> from portolan.patches import quarters
+>>> quarters((0, 3, 0, 1))
+[(0, 1, 0, 1), (1, 3, 0, 1)]
+
+>>> from portolan.tiles import tile_of
+>>> tile_of((0, 0), 1)
+(1, 1, 1)
+
+>>> from portolan.tiles import meridians
+>>> meridians((3, 1, 0))
+((-135, 1), (-90, 1))
+
+>>> from portolan.tiles import key_of
+>>> key_of((3, 5, 3))
+'123'
+
+>>> from portolan.polygons import where
+>>> where([(0, 0), (0, 10), (10, 0)], (2, 2))
+'inside'
+
+>>> from portolan.polygons import double_area
+>>> double_area([(0, 0), (0, 10), (10, 0)])
+100
+
+>>> from portolan.formulas import number
+>>> from portolan.formulas import pi_formula
+>>> from portolan.journeys import is_shorter
+>>> is_shorter(number(3, 1), pi_formula())
+True
+
+>>> from portolan.journeys import best_order
+>>> best_order((0, 0), [(0, 30), (0, 10), (0, 20)])
+[(0, 10), (0, 20), (0, 30)]
+
+>>> from portolan.console import run_console
+>>> run_console("point a 0 0\\npoint b 0 90\\ntile b 1\\ntext b\\n")
+'1 1 1\\n0d00m00.00000s 90d00m00.00000s\\n'
 """
 
 

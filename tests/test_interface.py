@@ -27,6 +27,17 @@ latitudes: parametric_latitude(ellipsoid, lat) geocentric_latitude(ellipsoid, la
 latitudes: isometric_latitude(ellipsoid, lat) conformal_latitude(ellipsoid, lat)
 latitudes: authalic_latitude(ellipsoid, lat) zone_area(ellipsoid, south, north)
 latitudes: latitude_of(ellipsoid, x, z, bits)
+scales: scales(projection, point) area_scale(projection, point)
+patches: map_area(projection, patch) quarters(patch) scale_bounds(projection, patch, bits)
+tiles: is_tile(value) tile_of(point, zoom) cover(south, north, west, east, zoom) meridians(tile) parallels(tile)
+tiles: tile_area(tile) parent(tile) neighbor(tile, right, down) ancestor(a, b) children(tile) key_of(tile)
+tiles: tile_with(key)
+polygons: is_simple(polygon) turning(polygon) double_area(polygon) where(polygon, point) halves(polygon, i, k)
+polygons: hull_of(points)
+polygonareas: map_polygon_area(polygon) perimeter(polygon)
+journeys: journey_length(stops) journey_on(ellipsoid, stops) course_angle(p, q) course_length(p, q)
+journeys: is_shorter(f, g) best_order(start, stops) within(center, radius, points)
+console: run_console(text)
 """
 
 

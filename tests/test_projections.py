@@ -15,6 +15,7 @@ from portolan.values import enclose
 from tests import globe
 from tests import maps
 from tests.checks import check_values
+from tests.globe import has_place
 from tests.maps import D
 from tests.maps import LAT
 from tests.maps import LON
@@ -24,22 +25,6 @@ KINDS = {
     "plate": "other", "mercator": "conformal", "lambert": "equal-area", "sinus": "equal-area", "gnomonic": "other",
     "stereo": "conformal", "ortho": "other", "disk": "equal-area", "albers": "equal-area", "cone": "conformal",
 }
-
-
-def has_place(projection, point):
-    """Whether a point is on the map, reckoned in decimal form."""
-    name, lat0, lon0, _, _ = projection
-    if name in ("mercator", "cone"):
-        return abs(point[0]) != LAT
-    u = globe.cosine_between((lat0, lon0), point)
-    tiny = globe.Decimal(10) ** -200
-    if name == "gnomonic":
-        return u > tiny
-    if name == "ortho":
-        return u > -tiny
-    if name in ("stereo", "disk"):
-        return u > tiny - 1
-    return True
 
 
 class Projections(unittest.TestCase):
