@@ -195,6 +195,8 @@ WRONG = [
     "map", "map x", "map a b", "map 0 0", "map  a", "scale", "scale x", "scale a b", "scale a ",
     "tile", "tile a", "tile a 31", "tile a -1", "tile a 01", "tile a 100", "tile a x", "tile x 5", "tile a 5 5", "tile a 1.0",
     "tile a  5", "text", "text x", "text a b", "text abcdefghijklmn", "point\u00a0p 0 0", "text a\x0b", "run", "quit",
+    # Wrong words are told before it is asked whether there is a result.
+    "tile n 31", "tile s x", "bearing n x", "bearing x n", "map n n", "scale n n",
 ]
 
 
